@@ -1,0 +1,1 @@
+"""All fields over a prime's rests as one arithmetic."""

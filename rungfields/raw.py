@@ -1,5 +1,6 @@
 """Arithmetic of polynomials that does not look at what is handed in, for any count of rests."""
 
+from rungfields.powers import power_by
 from rungfields.rests import rest_power
 
 
@@ -100,17 +101,67 @@ def raw_put(one, other, rule, prime):
 def raw_power(one, exponent, rule, prime):
     """What a polynomial's power leaves by a rule; the exponent isn't below nought."""
     # what 1 leaves by a rule of degree 0 is nought
-    power = raw_left((1,), rule, prime)
-    square = raw_left(one, rule, prime)
-    steps = exponent
-    while steps > 0:
-        if steps % 2 == 1:
-            power = raw_left(raw_times(power, square, prime), rule, prime)
-        square = raw_left(raw_times(square, square, prime), rule, prime)
-        steps //= 2
-    return power
+    return power_by(
+        lambda first, second: raw_left(raw_times(first, second, prime), rule, prime),
+        raw_left((1,), rule, prime),
+        raw_left(one, rule, prime),
+        exponent,
+    )
 
 
 def raw_slope(one, prime):
     """Each rest times its place, one place down."""
     return trimmed([place * rest % prime for place, rest in enumerate(one)][1:])
+
+
+def raw_level(one, prime):
+    """A polynomial made level; nought stays."""
+    if not one:
+        return one
+    return raw_scaled(one, rest_power(one[-1], -1, prime), prime)
+
+
+def raw_greatest(one, other, prime):
+    """The greatest common polynomial alone."""
+    held, low = one, other
+    while low:
+        held, low = low, raw_left(held, low, prime)
+    return raw_level(held, prime)
+
+
+def raw_undone(one, rule, prime):
+    """What times a polynomial leaves 1 by a rule with which it has no part in common."""
+    held, held_by = rule, ()
+    low, low_by = one, (1,)
+    while len(low) > 1:
+        quotient, left = raw_parted(held, low, prime)
+        by = raw_minus(held_by, raw_times(quotient, low_by, prime), prime)
+        held, held_by = low, low_by
+        low, low_by = left, by
+    return raw_scaled(low_by, rest_power(low[0], -1, prime), prime)
+
+
+def padded(one, width):
+    """The rests of a polynomial with as many noughts behind them as make the width."""
+    return one + (0,) * (width - len(one))
+
+
+def turn_rows(rule, prime):
+    """For each power of x below a rule's degree what its turn leaves by the rule."""
+    row = raw_left((1,), rule, prime)
+    turn = raw_power((0, 1), prime, rule, prime)
+    rows = []
+    for _ in rule[1:]:
+        rows.append(padded(row, len(rule) - 1))
+        row = raw_left(raw_times(row, turn, prime), rule, prime)
+    return rows
+
+
+def weighed(weights, rows, start, prime):
+    """Some rests and the sum of rows, each times its weight; a row without a weight counts nothing."""
+    sums = list(start)
+    for weight, row in zip(weights, rows):
+        if weight != 0:
+            for place, rest in enumerate(row):
+                sums[place] += weight * rest
+    return tuple([number % prime for number in sums])

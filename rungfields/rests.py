@@ -1,6 +1,7 @@
 """The rests of a prime, and what is done with one of them."""
 
 from rungfields.errors import BadPrime, BadRest, NoInverse
+from rungfields.powers import power_by
 
 PRIMES = (2, 3, 5, 7, 11, 13, 17, 19, 23, 29, 31, 37, 41, 43, 47, 53, 59, 61, 67, 71, 73, 79, 83, 89, 97)
 LEAST = 2
@@ -40,14 +41,7 @@ def rest_power(rest, exponent, prime):
         return 1 if exponent == 0 else 0
     # the powers of a rest but 0 come round after prime - 1 steps, below nought too
     steps = exponent % (prime - 1)
-    square = rest
-    power = 1
-    while steps > 0:
-        if steps % 2 == 1:
-            power = power * square % prime
-        square = square * square % prime
-        steps //= 2
-    return power
+    return power_by(lambda first, second: first * second % prime, 1, rest, steps)
 
 
 def undone(number, *, prime=LEAST):

@@ -118,6 +118,35 @@ class Form(unittest.TestCase):
                     if isinstance(node.value, str):
                         self.assertNotIn("%", node.value, path)
 
+    def test_powers_have_literal_exponents(self):
+        for path, _, tree in self.each():
+            for node in ast.walk(tree):
+                if isinstance(node, ast.BinOp) and isinstance(node.op, ast.Pow):
+                    self.assertIsInstance(node.right, ast.Constant, path)
+                    self.assertIn(node.right.value, range(65), path)
+
+    def test_no_name_is_both_method_and_attribute(self):
+        for path, _, tree in self.each():
+            for told in ast.walk(tree):
+                if isinstance(told, ast.ClassDef):
+                    methods = {node.name for node in told.body if isinstance(node, ast.FunctionDef)}
+                    attributes = {
+                        node.attr for node in ast.walk(told)
+                        if isinstance(node, ast.Attribute) and isinstance(node.ctx, ast.Store)
+                    }
+                    self.assertFalse(methods & attributes, (path, told.name))
+
+    def test_what_len_and_the_texts_return(self):
+        kinds = (ast.Call, ast.Constant, ast.JoinedStr)
+        for path, _, tree in self.each():
+            for node in ast.walk(tree):
+                if isinstance(node, ast.FunctionDef) and node.name in ("__len__", "__repr__", "__str__"):
+                    self.assertIsInstance(node.body[-1], ast.Return, path)
+                    value = node.body[-1].value
+                    self.assertIsInstance(value, kinds, path)
+                    if isinstance(value, ast.Call) and isinstance(value.func, ast.Name):
+                        self.assertIn(value.func.id, ("len", "str", "repr"), path)
+
     def test_names(self):
         for path, _, tree in self.each():
             for name in names(tree):

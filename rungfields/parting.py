@@ -104,8 +104,6 @@ def split_by(part, mask, prime):
 
 def half_mask(mask, shift, part, prime):
     """What leaves 0 by just those whole parts by which a mask leaves rests of one half."""
-    if prime == 2:
-        return mask
-    # of two unlike rests some shift makes the one a square and the other none
+    # of two unlike rests some shift makes just one a square that isn't 0, whose power is 1
     moved = raw_plus(mask, trimmed([shift]), prime)
     return raw_minus(raw_power(moved, prime // 2, part, prime), (1,), prime)

@@ -22,9 +22,7 @@ def raw_over_plus(raw, one, other):
 
 def raw_over_times(raw, one, other):
     """The product of two polynomials."""
-    if not one or not other:
-        return ()
-    sums = [raw.nought] * (len(one) + len(other) - 1)
+    sums = [raw.nought] * (len(one) + len(other))
     for low, number in enumerate(one):
         for high, by in enumerate(other):
             sums[low + high] = raw.plus(sums[low + high], raw.times(number, by))

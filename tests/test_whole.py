@@ -8,6 +8,7 @@ import naive
 from rungfields import whole
 from rungfields.errors import BadDegree, BadPoly, BadPrime
 from rungfields.parting import parts
+from rungfields.polys import poly_common, poly_left
 from rungfields.rests import PRIMES
 from rungfields.whole import is_whole, least_whole, paper, paper_holds
 
@@ -365,6 +366,37 @@ class Holds(unittest.TestCase):
                 for show in (((), ()), ((1,), ()), ((), (1,)), ((1,), (1,))):
                     by = [number for number in PRIMES if (len(poly) - 1) % number == 0]
                     self.assertFalse(self.holds(poly, ("whole", turns, [show] * len(by)), prime))
+
+    def test_right_turns_and_shows_of_one_that_is_not_whole(self):
+        # its parts are all greater than the turns in the shows would part, but the last turn isn't x
+        for prime, parts_told in (
+            (2, ((1, 1, 1), (1, 1, 0, 1))), (2, ((1, 1, 0, 1), (1, 1, 0, 0, 1))),
+            (3, ((1, 0, 1), (1, 2, 0, 1))), (97, (least_whole(3, prime=97), least_whole(4, prime=97))),
+        ):
+            poly = naive.times(*parts_told, prime)
+            self.assertIs(is_whole(poly, prime=prime), False)
+            turns = [poly_left(X, prime ** (at + 1), poly, prime=prime) for at in range(len(poly) - 1)]
+            shows = []
+            for by in PRIMES:
+                if (len(poly) - 1) % by == 0:
+                    less = naive.minus(turns[(len(poly) - 1) // by - 1], X, prime)
+                    common, first, second = poly_common(less, poly, prime=prime)
+                    self.assertEqual(common, (1,))
+                    shows.append((first, second))
+            self.assertFalse(self.holds(poly, ("whole", turns, shows), prime))
+            self.assertFalse(self.holds(poly, ("whole", turns[:-1] + [X], shows), prime))
+
+    def test_another_form(self):
+        whole_told = paper((1, 1, 1))
+        word, turns, shows = whole_told
+        first, second = shows[0]
+        for told in (
+            (), (word,), (word, turns), whole_told + ((),), (word, None, shows), (word, turns, None),
+            (word, turns, [first]), (word, turns, [(first,)]), (word, turns, [(first, second, ())]),
+        ):
+            self.assertFalse(self.holds((1, 1, 1), told, 2))
+        for told in (("parts", (1, 1)), ("parts", (1, 1), (1, 1), ())):
+            self.assertFalse(self.holds((1, 0, 1), told, 2))
 
     def test_what_is_handed_in_stays(self):
         for poly in ((1, 1, 1), least_whole(6), least_whole(12)):

@@ -110,7 +110,7 @@ class Rules(unittest.TestCase):
 
 class Told(unittest.TestCase):
     def test_plain(self):
-        for field, known in SMALL:
+        for field, _ in SMALL:
             for rest in range(field.prime()):
                 self.assertEqual(field.plain(rest), (rest,) + (0,) * (len(field) - 1))
             for rest in (field.prime(), -1, FORTY, -FORTY, True, False):

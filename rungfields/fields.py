@@ -107,18 +107,12 @@ class Field:
     def trace(self, number):
         """The sum of a number's turns, a rest."""
         refuse_numbers(self.raw, (number,))
-        total = self.raw.nought
-        for turn in self.raw.turns(number):
-            total = self.raw.plus(total, turn)
-        return total[0]
+        return self.raw.turn_sum(number, 1)[0]
 
     def norm(self, number):
         """The product of a number's turns, a rest."""
         refuse_numbers(self.raw, (number,))
-        total = self.raw.unit
-        for turn in self.raw.turns(number):
-            total = self.raw.times(total, turn)
-        return total[0]
+        return self.raw.turn_product(number, 1)[0]
 
     def place(self, number):
         """The place of a number: the sum of its rests, each times the prime to its place."""

@@ -86,6 +86,22 @@ class RawField:
             turn = self.turned(turn, 1)
         return told
 
+    def turn_sum(self, number, degree):
+        """The sum of a number's turns by a degree that divides the width."""
+        total = self.nought
+        for _ in range(self.width // degree):
+            total = self.plus(total, number)
+            number = self.turned(number, degree)
+        return total
+
+    def turn_product(self, number, degree):
+        """The product of a number's turns by a degree that divides the width."""
+        total = self.unit
+        for _ in range(self.width // degree):
+            total = self.times(total, number)
+            number = self.turned(number, degree)
+        return total
+
     def powers(self, number, count):
         """The first powers of a number, that to 0 ahead."""
         told = [self.unit]

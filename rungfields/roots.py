@@ -50,22 +50,13 @@ def raw_root(raw, poly):
 def trace_mask(raw, turns, number):
     """The polynomial that at each root is the trace of the root times a number, which is a rest."""
     count = len(turns)
-    weight = relative_trace(raw, number, count)
+    weight = raw.turn_sum(number, count)
     sums = [raw.nought] * count
     for at in range(count):
         weight = raw.turned(weight, 1)
         for place, rest in enumerate(turns[at]):
             sums[place] = raw.plus(sums[place], raw.times(raw.plain(rest), weight))
     return over_trimmed(raw, sums)
-
-
-def relative_trace(raw, number, degree):
-    """The sum of a number's turns by a degree that divides the field's: of the field of that degree."""
-    total = raw.nought
-    for _ in range(raw.width // degree):
-        total = raw.plus(total, number)
-        number = raw.turned(number, degree)
-    return total
 
 
 def narrowed(raw, part, mask):

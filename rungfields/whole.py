@@ -44,8 +44,7 @@ def paper_holds(poly, told, *, prime=LEAST):
 def least_whole(degree, *, prime=LEAST):
     """The least whole polynomial of a degree."""
     refuse_prime(prime)
-    if not is_number(degree) or not 1 <= degree <= MOST_DEGREE:
-        raise BadDegree()
+    refuse_degree(degree)
     if degree == 1:
         return X
     # x stands in all of them whose first rest is 0
@@ -53,6 +52,12 @@ def least_whole(degree, *, prime=LEAST):
     while not raw_whole(tuple(rests) + (1,), prime):
         count_on(rests, prime)
     return tuple(rests) + (1,)
+
+
+def refuse_degree(told):
+    """Refuse what is no degree from 1 to 12."""
+    if not is_number(told) or not 1 <= told <= MOST_DEGREE:
+        raise BadDegree()
 
 
 def count_on(rests, prime):

@@ -217,3 +217,29 @@ class Numbers:
             scaled = tuple(rest * own % self.prime for own in self.power(number, place))
             total = self.plus(total, scaled)
         return total
+
+
+def own_rules(prime, most):
+    """For each degree the first whole level polynomial."""
+    return {degree: wholes[0] for degree, wholes in sieve(prime, most).items()}
+
+
+def own_images(prime, most):
+    """For each two degrees of which one divides the other the image, all numbers gone through."""
+    rules = own_rules(prime, most)
+    images = {}
+    for high in range(1, most + 1):
+        known = Numbers(rules[high], prime)
+        images[high, high] = known.number((0, 1))
+        for low in range(1, high):
+            if high % low == 0:
+                images[low, high] = next(
+                    number for number in known.all
+                    if known.value(rules[low], number) == known.nought
+                    and all(
+                        known.value(images[lesser, low], number) == images[lesser, high]
+                        for lesser in range(2, low)
+                        if low % lesser == 0
+                    )
+                )
+    return images

@@ -44,8 +44,6 @@ def thing_place(works, name):
 def read_page(text):
     """The works of a page, without steps."""
     rows = text.split("\n")
-    if len(rows) == 1:
-        raise BadPage(0)
     works = begun(rows[0])
     ahead = ()
     for at, row in enumerate(rows[1:-1], start=1):

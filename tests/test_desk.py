@@ -122,7 +122,7 @@ class Refused(Case):
             ("bring g 2x", "BadRule"), ("bring g 1 + x^2", "NotWhole"), ("bring g 0", "BadRule"), ("leave g", "NoGuest"),
             ("leave a", "NoGuest"), ("put a 1 1", "Taken"), ("put A 1 1", "BadName"), ("put c 0 1", "BadDegree"),
             ("put c 13 1", "BadDegree"), ("put c 99 1", "BadDegree"), ("put c g 1", "NoGuest"), ("put c G1 1", "NoGuest"),
-            ("put c -1 1", "NoGuest"), ("put c 1 5", "BadNumber"), ("put c 2 1", "BadNumber"), ("put c 1 1 1", "BadNumber"),
+            ("put c -1 1", "NoGuest"), ("put c z 1", "NoGuest"), ("put c 1 5", "BadNumber"), ("put c 2 1", "BadNumber"), ("put c 1 1 1", "BadNumber"),
             ("put c f 1 99", "BadNumber"), ("fix c 1 1", "NoName"), ("fix a 0 1", "BadDegree"), ("fix a g 1", "NoGuest"),
             ("fix a 2 1 5", "BadNumber"), ("lay a b", "Taken"), ("lay A b", "BadName"), ("lay c a +", "BadText"),
             ("lay c A", "BadText"), ("lay c a b", "BadText"), ("lay c x", "NoName"), ("lay c 1 / z", "NoInverse"),

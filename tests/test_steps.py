@@ -16,7 +16,7 @@ NO_DEEDS = [
     ("bring",), ("bring", "x"), ("bring", "x", RULE, 5), ("leave",), ("leave", "f", 1), ("lay", "x"), ("lay", "x", "a", "b"),
     ("change", "s"), ("change", "s", "a", "a"), ("drop",), ("drop", "s", "s"), ("many", []), ("many", ()), ("many",),
     ("many", [("drop", "s")]), ("undo",), ("redo",), ("Put", "x", 1, (1,)), ("worth", "a"), ("twin",), ("", "x"), ("do", ()),
-    ("trial", []), ("deeds",), ("put ", "x", 1, (1,)),
+    ("trial", []), ("deeds",), ("put ", "x", 1, (1,)), ["drop", "s"], [], "drop", None,
 ]
 
 

@@ -180,6 +180,13 @@ class Refused(Case):
             self.bad(f"a^{word}", 2)
             self.bad(f"a^-{word} + b", 3)
 
+    def test_letters_and_figures_of_other_alphabets(self):
+        for sign in ("\u00e9", "\u00b2", "\u0663", "\uff41", "\u03b1", "\u00a0", "\t", "%"):
+            self.bad(sign, 0)
+            self.bad(f"a{sign}", 1)
+            self.bad(f"a^2{sign}", 3)
+            self.bad(f"a + {sign}a", 4)
+
     def test_a_name_is_no_exponent(self):
         self.bad("a^bc", 2)
         self.bad("a ^ - bc", 6)

@@ -14,7 +14,7 @@ from rungfields.towers import Tower
 from rungfields.works import Works
 
 FORTY = 10**39 + 12345
-NO_NAMES = ("", "abcdefghi", "A", "aB", "a1", "1", "a b", " a", "a ", "a_", "a\n", "a'", "a+b", "abcdefghijklmnop")
+NO_NAMES = ("", "\u00e9", "abcdefghi", "A", "aB", "a1", "1", "a b", " a", "a ", "a_", "a\n", "a'", "a+b", "abcdefghijklmnop")
 NO_DEGREES = (0, 13, -1, FORTY, True, False)
 RULE = (2, 0, 1)
 OTHER = (3, 0, 1)
@@ -444,6 +444,21 @@ class Leaning(Case):
         self.assertEqual(works.worths(), [(name, (1, (3 * 2**at % 97,))) for at, name in reversed(list(enumerate("zyxwvuts")))])
 
 
+    def test_worths_of_things_that_came_to_lean_on_later_ones(self):
+        works = Works(prime=97)
+        works.lay("a", "1")
+        works.lay("b", "2")
+        works.lay("c", "3")
+        works.put("m", 1, (1,))
+        works.change("c", "m + 1")
+        works.change("b", "c * 2")
+        works.change("a", "b - c")
+        works.fix("m", 1, (10,))
+        self.assertEqual(works.worths(), [("a", (1, (11,))), ("b", (1, (22,))), ("c", (1, (11,))), ("m", (1, (10,)))])
+        works.change("a", "1 / (b - c)")
+        self.refused(works, Held, "fix", "m", 1, (96,), by="a")
+
+
 class Asked(Case):
     def test_names_worths_and_seen(self):
         works = some_works()
@@ -518,6 +533,17 @@ class Equal(Case):
         self.check(one, other, False)
         one.change("a", "3")
         self.check(one, other, True)
+
+    def test_numbers_count(self):
+        one, other = some_works(), some_works()
+        other.fix("nil", 3, (0, 0, 1))
+        self.check(one, other, False)
+        other.fix("nil", 2, (0, 0))
+        self.check(one, other, True)
+        other.put("x", 1, (1,))
+        self.check(one, other, False)
+        one.put("y", 1, (1,))
+        self.check(one, other, False)
 
     def test_guests_by_rules(self):
         one, other = Works(prime=5), Works(prime=5)

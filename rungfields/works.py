@@ -157,8 +157,7 @@ class Works:
         return isinstance(other, Works) and self._shelf == other._shelf
 
     def __repr__(self):
-        guests, things = len(self._shelf.hosted), len(self._shelf.known)
-        return f"Works({guests} guests, {things} things, by {self._shelf.ground.prime()})"
+        return f"Works({len(self._shelf.hosted)} guests, {len(self._shelf.known)} things, by {self.prime()})"
 
 
 def told_worths(shelf):

@@ -147,6 +147,14 @@ class Form(unittest.TestCase):
                     if isinstance(value, ast.Call) and isinstance(value.func, ast.Name):
                         self.assertIn(value.func.id, ("len", "str", "repr"), path)
 
+    def test_len_equality_and_the_texts_assign_nothing(self):
+        barred = (ast.Assign, ast.AugAssign, ast.AnnAssign, ast.NamedExpr, ast.Delete)
+        for path, _, tree in self.each():
+            for node in ast.walk(tree):
+                if isinstance(node, ast.FunctionDef) and node.name in ("__eq__", "__len__", "__repr__", "__str__"):
+                    for part in ast.walk(node):
+                        self.assertNotIsInstance(part, barred, (path, node.name))
+
     def test_names(self):
         for path, _, tree in self.each():
             for name in names(tree):

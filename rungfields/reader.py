@@ -41,7 +41,7 @@ class Reader:
 
     def __init__(self):
         self._trees = []
-        # what waits for a part behind it to be whole: brackets left open, and kinds of trees
+        # what waits for a part behind it to be whole: kinds of trees, and brackets not yet closed
         self._waiting = []
         self._parts = 0
         self._awaited = "part"
@@ -97,7 +97,7 @@ class Reader:
         return True
 
     def _close(self):
-        """Close the last bracket left open."""
+        """Close the last bracket that isn't closed yet."""
         self._fold("plus")
         if not self._waiting:
             return False
@@ -116,7 +116,7 @@ class Reader:
         return True
 
     def _fold(self, kind):
-        """Put together what goes ahead of a kind of trees, as far as the last bracket left open."""
+        """Put together what goes ahead of a kind of trees, back to the last bracket not yet closed."""
         while self._waiting and goes_ahead(self._waiting[-1], kind):
             second = self._trees.pop()
             self._trees[-1] = (self._waiting.pop(), self._trees[-1], second)
